@@ -1,0 +1,1 @@
+"""Ghostkeys: keys at crossings of rows and columns, without one-way wires."""
