@@ -46,3 +46,14 @@ def spare_keys(board, chord):
     """The keys each of which alone may be left out with the same lit, rising."""
     pieces = pieces_of(board, chord)
     return [key for key in chord if pieces_of(board, without(chord, key)) == pieces]
+
+
+def is_sure(board, chord):
+    """Whether no other chord lights just the same crossings."""
+    rows, columns, places = board
+    pieces = pieces_of(board, chord)
+    # A key that cannot be left out makes one piece of two, any other one changes nothing.
+    if len(set(pieces)) != rows + columns - len(chord):
+        return False
+    seen_keys = [key for key, (row, column) in enumerate(places) if pieces[row] == pieces[rows + column]]
+    return seen_keys == list(chord)

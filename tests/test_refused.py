@@ -1,25 +1,34 @@
-"""Boards and chords that cannot be (points 2 and 3), and which refusal is due first."""
+"""Boards and chords that cannot be (points 2 and 3), and which refusal is due first.
+
+Wishes, counts and texts that cannot be have files of their own.
+"""
 
 import unittest
 
 from ghostkeys.errors import BadBoard, BadChord
+from ghostkeys.following import follow
 from ghostkeys.pieces import blanks, ghosts, lit, seen, twin, unsure
 from ghostkeys.readings import chords_of, open_keys, sure_keys
+from ghostkeys.texts import drawn
 from tests.reference import BLOCK, MIXED, NO_KEY, ONE_KEY, RING, SQUARE, all_crossings
 
 HUGE = 10 ** 60 - 1
 
 OF_CHORDS = (lit, seen, ghosts, blanks, twin)
-OF_READINGS = (chords_of, sure_keys, open_keys)
+OF_READINGS = (chords_of, sure_keys, open_keys, follow)
 
 
 def unsure_of_one(board, chord):
     return unsure(board, [chord])
 
 
+def drawn_only(board, _):
+    return drawn(board)
+
+
 class BoardTest(unittest.TestCase):
     def assert_bad(self, board, word, number):
-        calls = [(call, ()) for call in OF_CHORDS] + [(unsure, [])] + [(call, []) for call in OF_READINGS]
+        calls = [(call, ()) for call in OF_CHORDS] + [(call, []) for call in (unsure, drawn_only, *OF_READINGS)]
         for call, told in calls:
             with self.assertRaises(BadBoard, msg=f"{call.__name__} {board}") as caught:
                 call(board, told)
@@ -32,6 +41,7 @@ class BoardTest(unittest.TestCase):
             self.assertIsNone(unsure(board, []))
             for call in OF_READINGS:
                 call(board, [])
+            drawn(board)
 
     def test_each_count_of_lines_from_one_to_six(self):
         for rows in range(1, 7):
@@ -153,7 +163,7 @@ class OrderTest(unittest.TestCase):
     def test_the_board_ahead_of_the_reading(self):
         for call in OF_READINGS:
             with self.assertRaises(BadBoard) as caught:
-                call((2, 2, ((0, 0), (0, 0))), [(5, 5)])
+                call((2, 2, ((0, 0), (0, 0))), [[(5, 5)]] if call == follow else [(5, 5)])
             self.assertEqual((caught.exception.word, caught.exception.number), ("keys", 1))
 
     def test_a_bad_chord_ahead_of_an_unsure_one(self):
